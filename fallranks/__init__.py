@@ -1,0 +1,1 @@
+"""Fallranks: programs of branches, and ranks that fall in order."""

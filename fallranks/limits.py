@@ -1,0 +1,11 @@
+"""The limits within which programs and calls stay."""
+
+MOST_VARIABLES = 3
+MOST_PLACES = 3
+MOST_BRANCHES = 5
+MOST_TESTS = 3
+MOST_SAYINGS = 3
+MOST_NUMBER = 10 ** 6
+MOST_STATES = 1000
+MOST_FORMS = 9
+MOST_CHANGES = 6
