@@ -1,8 +1,9 @@
 """Programs: what makes one, its text, and how a text is read."""
 
-from fallranks.errors import InvalidBranches, InvalidChanges, InvalidIndex, InvalidNames, InvalidSayings, InvalidText
+from fallranks.errors import InvalidBranches, InvalidChanges, InvalidIndex, InvalidNames, InvalidPlace, InvalidPoint
+from fallranks.errors import InvalidSayings, InvalidText, NotProgram
 from fallranks.limits import MOST_BRANCHES, MOST_NUMBER, MOST_PLACES, MOST_SAYINGS, MOST_TESTS, MOST_VARIABLES
-from fallranks.values import are_forms, is_change, is_form, is_index, is_name, is_numeral
+from fallranks.values import are_forms, are_integers, is_change, is_form, is_index, is_name, is_numeral
 
 
 class Program:
@@ -60,8 +61,7 @@ class Program:
 
     def all_tests(self, index):
         """The tests of a branch, and behind them the forms of the sayings at its source."""
-        if not is_index(index, len(self._branches)):
-            raise InvalidIndex(index)
+        check_index(self, index)
         branch = self._branches[index]
         return branch[2] + tuple([form for place, form in self._sayings if place == branch[0]])
 
@@ -85,6 +85,30 @@ class Program:
 
     def __repr__(self):
         return f"Program of {len(self._branches)} branches"
+
+
+def check_program(program):
+    """Raises NotProgram for what is no program."""
+    if not isinstance(program, Program):
+        raise NotProgram(program)
+
+
+def check_index(program, index):
+    """Raises InvalidIndex for what is no index of a branch of the program."""
+    if not is_index(index, len(program.branches)):
+        raise InvalidIndex(index)
+
+
+def check_place(program, place):
+    """Raises InvalidPlace for what is no place of the program."""
+    if not isinstance(place, str) or place not in program.places:
+        raise InvalidPlace(place)
+
+
+def check_point(program, point):
+    """Raises InvalidPoint for what is no point of the program."""
+    if not are_integers(point, len(program.names)):
+        raise InvalidPoint(point)
 
 
 def _check_names(names):

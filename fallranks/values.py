@@ -1,4 +1,4 @@
-"""What values are: integers, names, indexes, forms, changes of lines."""
+"""What values are: integers, names, indexes, forms, changes of lines; and what a form is at a point."""
 
 from fallranks.limits import MOST_NUMBER
 
@@ -24,11 +24,14 @@ def is_name(value):
     return value[0] in LETTERS and all([sign in LETTERS + FIGURES for sign in value])
 
 
+def are_integers(value, many):
+    """Whether this is a tuple of so many integers, of any size."""
+    return isinstance(value, tuple) and len(value) == many and all([is_integer(number) for number in value])
+
+
 def is_form(value, many):
     """Whether this is a form for so many variables."""
-    if not isinstance(value, tuple) or len(value) != many + 1:
-        return False
-    return all([is_integer(number) and -MOST_NUMBER <= number <= MOST_NUMBER for number in value])
+    return are_integers(value, many + 1) and all([-MOST_NUMBER <= number <= MOST_NUMBER for number in value])
 
 
 def are_forms(value, many):
@@ -49,3 +52,13 @@ def is_numeral(word):
     if not figures or not all([sign in FIGURES for sign in figures]):
         return False
     return figures[0] != "0" or word == "0"
+
+
+def weighed(form, numbers):
+    """The numbers of a form, multiplied by as many others, as one sum."""
+    return sum([one * other for one, other in zip(form, numbers)])
+
+
+def value_at(form, point):
+    """The value of a form at a point."""
+    return weighed(form, (*point, 1))

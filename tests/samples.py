@@ -93,6 +93,14 @@ SAMPLES = (
 )
 
 
+NEST = Program(*NEST_PARTS)
+DOWN = Program(*DOWN_PARTS)
+UP = Program(*UP_PARTS)
+FULL = Program(*FULL_PARTS)
+STOP = Program(("x",), (("a", (1, 0)),), (("a", "a", ((-1, -1),), ((1, 1),)),))
+TWO = Program(("x",), (("b", (1, 0)),), (("a", "b", ((1, -1),), ((1, -1),)), ("b", "a", (), ((1, 0),))))
+
+
 class Odd:
     """A value of a class that no call knows, and that answers nothing at all."""
 
