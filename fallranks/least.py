@@ -116,11 +116,19 @@ def _are_neighbours(one, other, found, done):
 def solve(columns, ends, costs):
     """The prices at the least cost: a pair (d, prices), or None if nothing makes up the ends.
 
+    It is then the sum of the prices, divided by d, multiplied by the ends; and
+    each column, multiplied by these prices, has at most its cost as the sum.
+    """
+    table = settled(columns, ends, costs)
+    return None if table is None else (table.whole, table.prices())
+
+
+def settled(columns, ends, costs):
+    """The table that tells the amounts at the least cost, or None if nothing makes up the ends.
+
     Amounts of at least 0, one for each column, make up the ends if the columns,
     multiplied by the amounts, have them as their sum; each amount has its cost.
-    There must be a least cost if there are amounts: it is then the sum of the
-    prices, divided by d, multiplied by the ends; and each column, multiplied by
-    these prices, has at most its cost as the sum.
+    There must be a least cost if there are amounts.
     """
     table = Table(columns, ends, costs)
     table.descend(table.lacks)
@@ -128,7 +136,7 @@ def solve(columns, ends, costs):
         return None
     table.drop_lacks()
     table.descend(table.costs)
-    return table.whole, table.prices(ends)
+    return table
 
 
 class Table:
@@ -143,6 +151,7 @@ class Table:
     def __init__(self, columns, ends, costs):
         size = len(ends)
         self.many = len(columns)
+        self.ends = ends
         self.whole = 1
         self.base = [self.many + at for at in range(size)]
         self.rows = [_equation(columns, ends, at) for at in range(size)]
@@ -197,10 +206,18 @@ class Table:
                     self.rows[at] = [-number for number in row]
                 self.pivot(at, others[0])
 
-    def prices(self, ends):
+    def prices(self):
         """By how much, multiplied by `whole`, the least cost grows with each end."""
         told = self.rows[self.costs][self.many:-1]
-        return [number if end < 0 else -number for number, end in zip(told, ends)]
+        return [number if end < 0 else -number for number, end in zip(told, self.ends)]
+
+    def amounts(self):
+        """The amounts of the columns, multiplied by `whole`."""
+        told = [0 for _ in range(self.many)]
+        for to, row in zip(self.base, self.rows):
+            if to < self.many:
+                told[to] = row[-1]
+        return told
 
 
 def _equation(columns, ends, at):

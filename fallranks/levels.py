@@ -1,6 +1,6 @@
 """Levels: which branches are dead, and which ones each rank of a shortest row of ranks takes."""
 
-from fallranks.least import arrows, lowest, reach_points, solve
+from fallranks.least import arrows, lowest, reach_points, settled
 from fallranks.programs import check_program
 from fallranks.values import weighed
 
@@ -64,14 +64,27 @@ def ladder(program):
 
 
 def _widest(program, remaining):
-    """The level of these branches, and a rank that stands and does not rise on them and falls on the level.
+    """The level of these branches, and a rank that stands and does not rise on them and falls on the level."""
+    table = falls_table(program, remaining)
+    size = _rank_size(program)
+    prices = table.prices()
+    level = tuple([index for index, fall in zip(remaining, prices[size:]) if fall > 0])
+    return level, rank_of(program, table.whole, prices[:size])
+
+
+def falls_table(program, remaining):
+    """The table, at its least cost, for a rank that stands and does not rise on these branches and falls on most.
 
     The prices of the equations are the numbers of the forms of the rank, and
     for each branch by how much the rank falls on it, which counts up to 1. At
     the least cost the falls have the greatest sum, so each of them is 0 or 1:
     what can fall at all can be multiplied until it falls by 1.
+
+    The first columns are those of the demands. Their amounts are those of a bar
+    of these branches: the rank does not fall on a branch exactly if the arrows,
+    multiplied by the amounts of its falling, have a height above 0.
     """
-    size = len(program.places) * (len(program.names) + 1)
+    size = _rank_size(program)
     units = [[1 if other == one else 0 for other in remaining] for one in remaining]
     columns = []
     costs = []
@@ -82,14 +95,18 @@ def _widest(program, remaining):
         for unit in units:
             columns.append([*[0 for _ in range(size)], *[sign * number for number in unit]])
             costs.append(cost)
-    whole, prices = solve(columns, [*[0 for _ in range(size)], *[1 for _ in units]], costs)
-    level = tuple([index for index, fall in zip(remaining, prices[size:]) if fall > 0])
-    return level, rank_of(program, whole, prices[:size])
+    return settled(columns, [*[0 for _ in range(size)], *[1 for _ in units]], costs)
+
+
+def _rank_size(program):
+    """How many numbers the forms of a rank have."""
+    return len(program.places) * (len(program.names) + 1)
 
 
 def demands(program, remaining):
     """What a rank needs to stand on these branches and to fall on them: triples (index, row, height).
 
+    There are two for each arrow: one for its standing and one for its falling.
     The numbers of its forms, of one place behind those of another, are
     multiplied by those of the row; the sum is to be at least the height
     multiplied by what the rank falls on the branch with this index.
@@ -98,8 +115,8 @@ def demands(program, remaining):
     for index, some in remaining.items():
         branch = program.branches[index]
         for arrow in some:
-            before = _at_place(program, branch[0], arrow)
-            behind = _at_place(program, branch[1], _led(branch, arrow))
+            before = at_place(program, branch[0], arrow)
+            behind = at_place(program, branch[1], _led(branch, arrow))
             told.append((index, before, 0))
             told.append((index, [one - other for one, other in zip(before, behind)], arrow[-1]))
     return told
@@ -110,7 +127,7 @@ def _led(branch, arrow):
     return [*[weighed(change, arrow) for change in branch[3]], arrow[-1]]
 
 
-def _at_place(program, place, numbers):
+def at_place(program, place, numbers):
     """The numbers among zeros, where the form for this place stands in a rank."""
     zeros = [0 for _ in numbers]
     return [number for other in program.places for number in (numbers if other == place else zeros)]

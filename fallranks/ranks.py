@@ -60,17 +60,17 @@ def _is_taken(program, index, found, row):
     Those up to this one must stand on the branch, and those before it not rise.
     """
     for rank in row:
-        if not _is_enough(least_at(found, _form_at(program, program.branches[index][0], rank[1])), 0):
+        if not is_enough(least_at(found, form_at(program, program.branches[index][0], rank[1])), 0):
             return False
         amount = _fall_at(program, index, found, rank)
-        if _is_enough(amount, 1):
+        if is_enough(amount, 1):
             return True
-        if not _is_enough(amount, 0):
+        if not is_enough(amount, 0):
             return False
     return False
 
 
-def _is_enough(amount, number):
+def is_enough(amount, number):
     """Whether a least amount is at least this number."""
     return amount != "endless" and amount[0] >= number * amount[1]
 
@@ -87,16 +87,16 @@ def _fall_at(program, index, found, rank):
 def fall_form(program, index, forms):
     """The form for the source of a branch, less the one for its target behind the changes."""
     source, target, _, changes = program.branches[index]
-    behind = _moved(_form_at(program, target, forms), changes)
-    return tuple([one - other for one, other in zip(_form_at(program, source, forms), behind)])
+    behind = moved(form_at(program, target, forms), changes)
+    return tuple([one - other for one, other in zip(form_at(program, source, forms), behind)])
 
 
-def _form_at(program, place, forms):
+def form_at(program, place, forms):
     """The form for this place, of forms for all places."""
     return forms[program.places.index(place)]
 
 
-def _moved(form, changes):
+def moved(form, changes):
     """The form that has ahead of the changes the value that this one has behind them."""
     rows = [*changes, [*[0 for _ in changes], 1]]
     return [weighed(form, column) for column in zip(*rows)]

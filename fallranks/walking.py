@@ -12,7 +12,7 @@ def can_take(program, index, place, point):
     check_index(program, index)
     check_place(program, place)
     check_point(program, point)
-    return _fits(program.branches[index], place, point)
+    return fits(program.branches[index], place, point)
 
 
 def take(program, index, point):
@@ -24,7 +24,7 @@ def take(program, index, point):
     for at, test in enumerate(branch[2]):
         if value_at(test, point) < 0:
             raise Stuck(at)
-    return _state_behind(branch, point)[1]
+    return state_behind(branch, point)[1]
 
 
 def walk(program, point, walk):
@@ -35,9 +35,9 @@ def walk(program, point, walk):
     place = program.branches[walk[0]][0]
     for at, index in enumerate(walk):
         branch = program.branches[index]
-        if not _fits(branch, place, point):
+        if not fits(branch, place, point):
             raise Stuck(at)
-        place, point = _state_behind(branch, point)
+        place, point = state_behind(branch, point)
     return place, point
 
 
@@ -47,7 +47,7 @@ def rounds(program, place, point):
     check_place(program, place)
     check_point(program, point)
     start = (place, point)
-    return _longest_runs(_ways_from(program, start)).get(start, "endless")
+    return longest_runs(ways_from(program, start)).get(start, "endless")
 
 
 def _check_walk(program, walk):
@@ -61,17 +61,17 @@ def _check_walk(program, walk):
             raise InvalidWalk(at)
 
 
-def _fits(branch, place, point):
+def fits(branch, place, point):
     """Whether a branch can be taken in this state."""
     return branch[0] == place and all([value_at(test, point) >= 0 for test in branch[2]])
 
 
-def _state_behind(branch, point):
+def state_behind(branch, point):
     """The state behind a branch that is taken at this point."""
     return branch[1], tuple([value_at(change, point) for change in branch[3]])
 
 
-def _ways_from(program, start):
+def ways_from(program, start):
     """For each state that can be come to, the states behind the branches that can be taken in it."""
     ways = {}
     found = {start: True}
@@ -79,7 +79,7 @@ def _ways_from(program, start):
     while waiting:
         state = waiting.pop()
         place, point = state
-        further = [_state_behind(branch, point) for branch in program.branches if _fits(branch, place, point)]
+        further = [state_behind(branch, point) for branch in program.branches if fits(branch, place, point)]
         ways[state] = further
         for other in further:
             if other not in found:
@@ -90,7 +90,7 @@ def _ways_from(program, start):
     return ways
 
 
-def _longest_runs(ways):
+def longest_runs(ways):
     """For each state from which all runs end, the number of branches of a longest one."""
     before = {state: [] for state in ways}
     for state, further in ways.items():

@@ -74,36 +74,95 @@ def levels(program):
     return dead, tuple(found), tuple(rest)
 
 
-def top_level(program, rest):
-    """The branches of these on which a rank falls that stands and does not rise on all of them."""
-    size = len(program.names) + 1
-    alone = (0,) * (size - 1) + (1,)
-    names = [(sign, place, k) for sign in (1, -1) for place in program.places for k in range(size)]
-    for index in rest:
-        many = len(program.all_tests(index)) + 1
-        names += [(kind, index, k) for kind in ("stand", "fall") for k in range(many)]
-        names += [("by", index, 0), ("less", index, 0)]
-    where = {name: at for at, name in enumerate(names)}
-    rows = []
-    ends = []
+class Equations:
+    """Equations between amounts of at least 0 with names, among them each number of the forms of a rank, as plus and
+    minus, and the multipliers for its standing and its falling on branches."""
 
-    def add(parts, end):
-        row = [0] * len(names)
+    def __init__(self, program, rest):
+        self.program = program
+        self.size = len(program.names) + 1
+        self.names = [(sign, place, k) for sign in (1, -1) for place in program.places for k in range(self.size)]
+        for index in rest:
+            many = len(program.all_tests(index)) + 1
+            self.names += [(kind, index, k) for kind in ("stand", "fall") for k in range(many)]
+            self.names += [("by", index, 0), ("less", index, 0)]
+        self.where = {name: at for at, name in enumerate(self.names)}
+        self.rows = []
+        self.ends = []
+        for index in rest:
+            self.ask(index)
+
+    def add(self, parts, end):
+        row = [0] * len(self.names)
         for name, number in parts:
-            row[where[name]] += number
-        rows.append(row)
-        ends.append(end)
+            row[self.where[name]] += number
+        self.rows.append(row)
+        self.ends.append(end)
 
-    for index in rest:
-        source, target, _, changes = program.branches[index]
-        tests = [*program.all_tests(index), alone]
-        for k in range(size):
+    def ask(self, index):
+        """The rank stands on the branch, and falls on it by what is called `by`, which is at most 1."""
+        alone = (0,) * (self.size - 1) + (1,)
+        source, target, _, changes = self.program.branches[index]
+        tests = [*self.program.all_tests(index), alone]
+        for k in range(self.size):
             before = [((sign, source, k), sign) for sign in (1, -1)]
             behind = [((sign, target, at), -sign * change[k]) for sign in (1, -1)
                       for at, change in enumerate([*changes, alone])]
-            add(before + [(("stand", index, at), -test[k]) for at, test in enumerate(tests)], 0)
+            self.add(before + [(("stand", index, at), -test[k]) for at, test in enumerate(tests)], 0)
             by = [(("by", index, 0), -alone[k])]
-            add(before + behind + by + [(("fall", index, at), -test[k]) for at, test in enumerate(tests)], 0)
-        add([(("by", index, 0), 1), (("less", index, 0), 1)], 1)
-    _, amounts = solved(rows, ends, [-int(name[0] == "by") for name in names])
-    return tuple(index for index in rest if amounts[where["by", index, 0]] > 0)
+            self.add(before + behind + by + [(("fall", index, at), -test[k]) for at, test in enumerate(tests)], 0)
+        self.add([(("by", index, 0), 1), (("less", index, 0), 1)], 1)
+
+    def solved(self, costs):
+        """The least cost and the amounts, for the costs of some names."""
+        return solved(self.rows, self.ends, [costs.get(name, 0) for name in self.names])
+
+
+def top_level(program, rest):
+    """The branches of these on which a rank falls that stands and does not rise on all of them."""
+    equations = Equations(program, rest)
+    _, amounts = equations.solved({("by", index, 0): -1 for index in rest})
+    return tuple(index for index in rest if amounts[equations.where["by", index, 0]] > 0)
+
+
+def bound(program, place, point):
+    """The bound at a state."""
+    dead, steps, rest = levels(program)
+    if len(steps) != 1 or rest:
+        return None
+    equations = Equations(program, steps[0])
+    for index in steps[0]:
+        equations.add([(("by", index, 0), 1)], 1)
+    costs = {(sign, place, k): sign * number for sign in (1, -1) for k, number in enumerate((*point, 1))}
+    found = equations.solved(costs)
+    return found if found == "endless" else (found[0].numerator, found[0].denominator)
+
+
+def follows(tests, form):
+    """Whether a form is at least 0 wherever the tests hold, which is somewhere."""
+    value = least(tests, form)
+    return value != "endless" and value[0] >= 0
+
+
+def behind(form, changes):
+    """The form that has ahead of the changes the value that this one has behind them."""
+    rows = [*changes, (0,) * len(changes) + (1,)]
+    return tuple(sum(number * row[at] for number, row in zip(form, rows)) for at in range(len(form)))
+
+
+def unkept(program):
+    """The pairs of a branch and a saying that it does not keep."""
+    return tuple((index, at) for index, branch in enumerate(program.branches)
+                 for at, (place, form) in enumerate(program.sayings)
+                 if place == branch[1] and least(program.all_tests(index), (0,) * len(form)) is not None
+                 and not follows(program.all_tests(index), behind(form, branch[3])))
+
+
+def needless(program):
+    """The pairs of a branch and a test that follows from the others."""
+    pairs = []
+    for index, branch in enumerate(program.branches):
+        tests = program.all_tests(index)
+        if least(tests, (0,) * (len(program.names) + 1)) is not None:
+            pairs += [(index, at) for at in range(len(branch[2])) if follows(tests[:at] + tests[at + 1:], tests[at])]
+    return tuple(pairs)

@@ -3,16 +3,30 @@
 import inspect
 import unittest
 
-from fallranks.errors import (InvalidForm, InvalidForms, InvalidIndex, InvalidPlace, InvalidPoint, InvalidRank,
-                              InvalidRanks, InvalidWalk, NotProgram)
+from fallranks.errors import (InvalidChanges, InvalidForm, InvalidForms, InvalidIndex, InvalidPlace, InvalidPoint,
+                              InvalidRank, InvalidRanks, InvalidWalk, InvalidWish, InvalidWishes, NotProgram)
 from fallranks.programs import Program
 from tests.samples import DOWN_PARTS, NEST_PARTS, NEST_TEXT, odd_values
 
 # The errors with `given` of the parameters that have the same error everywhere.
 ERRORS = {"program": NotProgram, "index": InvalidIndex, "place": InvalidPlace, "point": InvalidPoint,
-          "rank": InvalidRank, "form": InvalidForm}
+          "rank": InvalidRank, "form": InvalidForm, "wish": InvalidWish}
 # The errors with `index`, which is None for these values.
-ROW_ERRORS = {"walk": InvalidWalk, "row": InvalidRanks, "tests": InvalidForms}
+ROW_ERRORS = {"walk": InvalidWalk, "row": InvalidRanks, "tests": InvalidForms, "wishes": InvalidWishes,
+              "changes": InvalidChanges}
+# What is no wish, of each form: with parts left out or put in, of other kinds, and with numbers below 0.
+NO_WISHES = [
+    "row", ("ROW",), ("row ",), ("row", 1), ("row", ()), ("kept", 0), ("kept", "a"), (b"row",), (("row",),), ["row"], ("",),
+    ("ranks",), ("ranks", -1), ("ranks", True), ("ranks", False), ("ranks", None), ("ranks", "1"), ("ranks", (1,)),
+    ("ranks", 1, 1), ("ranks", 1, ()), ["ranks", 1], ("ranks", [1]), ("ranks", 1j), ("ranks", -10 ** 40),
+    ("within",), ("within", "a"), ("within", "a", (1, 2)), ("within", "a", (1, 2), 3, 4), ("within", "a", 3),
+    ("within", "A", (1, 2), 3), ("within", "", (1, 2), 3), ("within", "abcdefghi", (1, 2), 3), ("within", "a b", (1,), 3),
+    ("within", b"a", (1, 2), 3), ("within", None, (1, 2), 3), ("within", 1, (1, 2), 3), ("within", ("a",), (1, 2), 3),
+    ("within", "a", [1, 2], 3), ("within", "a", (1, True), 3), ("within", "a", (None, 2), 3), ("within", "a", ("1",), 3),
+    ("within", "a", ((1,), 2), 3), ("within", "a", 1, 3), ("within", "a", "12", 3), ("within", "a", None, 3),
+    ("within", "a", (1, 2), True), ("within", "a", (1, 2), None), ("within", "a", (1, 2), "3"),
+    ("within", "a", (1, 2), (3,)), ["within", "a", (1, 2), 3], ("within", (1, 2), "a", 3), ("bound", "a", (1, 2), 3),
+]
 
 
 def wrong_values(name):
@@ -21,6 +35,8 @@ def wrong_values(name):
     some = odd + ["", "b", "aa", "A", " a", (), ("a",), (1,), ((),), [1, 0], -1, 2, 3, 10 ** 40, -10 ** 40, [(1, 0, 0)]]
     if name == "program":
         return some + ["a", 0, 1, NEST_TEXT, NEST_PARTS, DOWN_PARTS, Program]
+    if name == "wish":
+        return some + NO_WISHES + [(value,) for value in odd_values()] + [("ranks", value) for value in odd_values()]
     if name in ROW_ERRORS:
         return [value for value in some if not isinstance(value, tuple)] + ["a", 0, 1, Program(*NEST_PARTS)]
     if name == "index":

@@ -173,6 +173,47 @@ class Language(unittest.TestCase):
                 free = name not in BARRED_NAMES and name not in vars(builtins)
                 self.ask(plain and free, file, tree, f"the name {name}")
 
+    def test_names_within_functions_are_no_imports_and_no_classes(self):
+        for file, (_, tree) in self.files.items():
+            taken = [node.name for node in tree.body if isinstance(node, ast.ClassDef)]
+            taken += [alias.name for node in tree.body if isinstance(node, ast.ImportFrom) for alias in node.names]
+            for function in (node for node in ast.walk(tree) if isinstance(node, ast.FunctionDef)):
+                for part in function.body + [function.args]:
+                    for name in bound_names(part):
+                        self.ask(name not in taken, file, function, f"{name} is an import or a class")
+
+    def test_what_leaves_a_with_statement_only_assigns(self):
+        for file, node in self.nodes(ast.FunctionDef):
+            if node.name != "__exit__":
+                continue
+            self.ask([arg.arg for arg in node.args.args] == ["self", "kind", "value", "trace"], file, node, "arguments")
+            for part in node.body:
+                if isinstance(part, ast.If):
+                    plain = ast.unparse(part.test) == "kind is not None" and not part.orelse
+                    self.ask(plain, file, part, "the test of an if")
+                for row in part.body if isinstance(part, ast.If) else [part]:
+                    plain = isinstance(row, ast.Assign) and isinstance(row.targets[0], ast.Attribute)
+                    self.ask(plain and isinstance(row.value, ast.Attribute), file, row, "not an attribute assigned")
+
+    def test_classes_with_items_are_not_iterated_over(self):
+        for file, node in self.nodes(ast.ClassDef):
+            methods = {part.name: part for part in node.body if isinstance(part, ast.FunctionDef)}
+            if "__getitem__" in methods:
+                self.ask("__iter__" in methods, file, node, "no __iter__")
+            if "__iter__" in methods:
+                body = methods["__iter__"].body
+                self.ask(len(body) == 1 and isinstance(body[0], ast.Raise), file, node, "the __iter__")
+            for name, method in methods.items():
+                self.ask(name != "__len__" or ast.unparse(method.body[-1]).startswith("return len("), file, method, name)
+
+    def test_attributes_are_assigned_and_are_no_methods(self):
+        functions = [node for _, node in self.nodes(ast.ClassDef) for node in node.body]
+        methods = {node.name for node in functions if isinstance(node, ast.FunctionDef)}
+        stored = {node.attr for _, node in self.nodes(ast.Attribute) if isinstance(node.ctx, ast.Store)}
+        self.assertEqual(stored & methods, set())
+        for file, node in self.nodes(ast.Attribute):
+            self.ask(node.attr in stored | methods | METHODS, file, node, f"the attribute {node.attr}")
+
     def test_strings_and_barred_words(self):
         for file, (code, tree) in self.files.items():
             told = docstrings(tree)
