@@ -28,6 +28,16 @@ STATEMENTS = (ast.Assign, ast.AugAssign, ast.AnnAssign, ast.If, ast.While, ast.F
               ast.Pass, ast.Raise, ast.Assert, ast.Delete, ast.Nonlocal, ast.Match, ast.With, ast.Try, ast.Expr,
               ast.FunctionDef, ast.ClassDef, ast.ImportFrom)
 DOCUMENTED = (ast.Module, ast.ClassDef, ast.FunctionDef)
+# What each file itself defines, as the document lists it; the errors have tests of their own.
+INTERFACE = {
+    "limits": "MOST_VARIABLES MOST_PLACES MOST_BRANCHES MOST_TESTS MOST_SAYINGS MOST_NUMBER MOST_STATES MOST_FORMS "
+              "MOST_CHANGES",
+    "programs": "Program", "walking": "can_take take walk rounds", "least": "least",
+    "levels": "dead levels left has_row fewest", "ranks": "ranks judge fall", "bounds": "bound",
+    "keeping": "unkept needless", "mends": "holds mends", "leads": "Lead", "consoles": "Console",
+    "libraries": "Library", "checker": "accepts",
+    "certificates": "certify_row certify_fewest certify_endless certify_within",
+}
 
 
 def docstrings(tree):
@@ -88,6 +98,10 @@ class Language(unittest.TestCase):
             if path.name != "__pycache__":
                 self.assertRegex(path.name, "^[a-z_]+\\.py$")
         self.assertIn("__init__.py", self.files)
+
+    def test_the_interface_stands_in_its_files(self):
+        for file, names in INTERFACE.items():
+            self.assertEqual(set(names.split()) - set(top_names(self.files[file + ".py"][1])), set())
 
     def test_sizes_and_signs(self):
         for file, (code, tree) in self.files.items():
